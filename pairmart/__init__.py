@@ -1,0 +1,1 @@
+"""Pairmart: a matching market of many rounds."""
