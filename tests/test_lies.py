@@ -2,8 +2,9 @@
 
 import unittest
 from itertools import product
+from unittest import mock
 
-from pairmart.asks import ask_all
+from pairmart.asks import ask_all, offer_all
 from pairmart.errors import BadSize, BadWish
 from pairmart.lies import (
     as_true, best_lie, cut_lists, had_by, helped, lists_of_lot, lot_lie, reached, room_lie,
@@ -47,6 +48,37 @@ class AskersLies(unittest.TestCase):
                 self.assertIsNone(best_lie(market, asker))
                 self.assertFalse([order for order, room in reached(market, asker)
                                   if market.askers[asker].better(room, had[asker])])
+
+    def test_a_lie_that_helps_is_told(self):
+        # No lie helps where askers ask; where rooms offer, some do: the first of these is to be told.
+        some = 0
+        with mock.patch("pairmart.lies.ask_all", offer_all):
+            for market in full_markets(60, 101, 3):
+                had, lists = offer_all(market), market.shown()[0]
+                for asker, order in enumerate(lists):
+                    lies = [(lie, room) for lie, room in reached(market, asker)
+                            if place(order, room) < place(order, had[asker])]
+                    some += lies != []
+                    self.assertEqual(best_lie(market, asker), lies[0] if lies else None)
+        self.assertGreater(some, 5)
+
+    def test_a_lie_that_helps_all_of_a_lot_is_told(self):
+        some = 0
+        with mock.patch("pairmart.lies.ask_all", offer_all):
+            for market in full_markets(12, 102, 3):
+                had, lists = offer_all(market), market.shown()[0]
+                for lot in ((0,), (1, 2), (2, 0)):
+                    lies = []
+                    for way in product(lists_below(3), repeat=len(lot)):
+                        told = list(lists)
+                        for asker, order in zip(lot, way):
+                            told[asker] = order
+                        got = offer_all(Market(told, market.shown()[1], market.seats))
+                        if all(place(lists[one], got[one]) < place(lists[one], had[one]) for one in lot):
+                            lies.append(way)
+                    some += lies != []
+                    self.assertEqual(lot_lie(market, lot), lies[0] if lies else None)
+        self.assertGreater(some, 2)
 
     def test_lists_of_lot(self):
         one = Market(((0,), (0,)), ((0, 1),), (1,))
@@ -113,6 +145,7 @@ class AskersLies(unittest.TestCase):
 
     def test_as_true(self):
         self.assertIs(as_true((0, 1, 2), (1, 0, 2), 2), True)
+        self.assertIs(as_true([1, 0, 2], (0, 1, 2), 2), True)
         self.assertIs(as_true((0, 1, 2), [1, 0, 2], 1), False)
         self.assertIs(as_true((0, 1), (0, 1, 2), 1), True)
         self.assertIs(as_true((0, 1, 2), (2, 0, 1), 1), False)

@@ -23,6 +23,7 @@ class Markets(unittest.TestCase):
         self.assertEqual(tuple(wish.order for wish in self.market.askers), self.lists)
         self.assertEqual(tuple(wish.order for wish in self.market.rooms), self.orders)
         self.assertEqual(self.market.seats, (2, 1, 0))
+        self.assertEqual((type(self.market.askers), type(self.market.rooms)), (tuple, tuple))
 
     def test_rows_may_be_lists(self):
         market = Market([list(row) for row in self.lists], [list(row) for row in self.orders], list(self.seats))
@@ -181,6 +182,10 @@ class Matchings(unittest.TestCase):
 
     def test_settled_sends_away_one_that_is_not_listed_first(self):
         self.assertEqual(settled(self.market, (None, 0, 0, None), (3, 0)), (None, None, 0, 0))
+
+    def test_settled_sends_away_the_lowest_of_several_that_are_not_listed(self):
+        market = Market(((), (), (0,), ()), ((2, 3),), (3,))
+        self.assertEqual(settled(market, (0, 0, None, 0), (2, 0)), (None, 0, 0, 0))
 
     def test_settled_changes_nothing_that_it_is_passed(self):
         match = [0, 2, None, 0]

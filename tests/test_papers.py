@@ -217,7 +217,7 @@ class BestPapers(unittest.TestCase):
         market, match, paper = asked(((0, 1), (0,), (1, 0)), ((1, 0, 2), (0,)), (1, 1))
         self.assertIs(check_best(market, match, paper), True)
         for row in ((3, 0, (1,)), (-1, 0, (1,)), (0, 2, (1,)), (0, -1, (1,)), (2, 0, (3,)), (2, 0, (-2,)),
-                    (2, 1, (0, 7)), (2, 1, (-1,))):
+                    (2, 1, (0, 7)), (2, 1, (-1,)), (1, -1, ()), (1, 2, ())):
             with self.assertRaises(BadPaper):
                 check_best(market, match, paper + (row,))
 
@@ -236,7 +236,10 @@ class BestPapers(unittest.TestCase):
                 check_best(market, (None, None), ((0, 0, (1,)), row))
 
     def test_refuses_holders_that_do_not_like_the_room(self):
-        # Asker 1 doesn't list room 0; room 1 doesn't list asker 2.
+        # Asker 1 doesn't list room 0, nor any that could refuse it; room 1 doesn't list asker 2.
+        market = Market(((0, 1), ()), ((1, 0), (0, 1)), (1, 1))
+        with self.assertRaises(BadPaper):
+            check_best(market, (1, None), ((0, 0, (1,)),))
         market = Market(((0, 1), (1,), (0, 1)), ((1, 2, 0), (0, 1)), (1, 1))
         with self.assertRaises(BadPaper):
             check_best(market, (1, None, 0), ((0, 0, (1,)), (1, 1, (0,))))
@@ -286,6 +289,8 @@ class BestPapers(unittest.TestCase):
         self.assertIs(holds_by_right(market, {(1, 0): True}, 0, 1, 1), False)
         self.assertIs(holds_by_right(market, {}, 2, 0, 1), False)
         self.assertIs(holds_by_right(market, {}, 0, 0, 0), False)
+        idle = Market(((), (0,)), ((0, 1),), (1,))
+        self.assertIs(holds_by_right(idle, {}, 0, 0, 1), False)
 
 
 class BothPapers(unittest.TestCase):

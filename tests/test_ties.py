@@ -184,6 +184,13 @@ class StrongestOnes(unittest.TestCase):
             with self.assertRaises(BadPaper):
                 check_none(self.tied, room)
 
+    def test_no_room_from_the_end_on_shows_it(self):
+        alike = Tied(((0,), (0,)), (((0, 1),),))
+        self.assertEqual(strongest(alike), (None, 0))
+        for room in (-1, 1):
+            with self.assertRaises(BadPaper):
+                check_none(alike, room)
+
     def test_the_first_such_room(self):
         two = Tied(((1,), (1,), (2,), (2,), (0,)), (((4,),), ((0, 1),), ((2, 3),)))
         self.assertEqual(strongest(two), (None, 1))
@@ -209,6 +216,15 @@ class StrongestOnes(unittest.TestCase):
         # The first ask drops asker 3, the second both alike, the third askers 1 and 2, who is taken by room 0.
         self.assertEqual(gone_pairs(tied), ((3, 0), (0, 0), (1, 0), (1, 1), (2, 1)))
         self.assertEqual(strongest(tied), ((1, None, 0, None), None))
+
+    def test_the_lowest_who_holds_nothing_asks_first(self):
+        # Asker 0 is put out by asker 1 and asks on, ahead of asker 2.
+        tied = Tied(((0, 1), (0,), (2,)), (((1,), (0,)), ((0,), (2,)), ((2,), (0,))))
+        strong = Strong(tied)
+        strong.go_on()
+        self.assertEqual(strong.gone, [(0, 0)])
+        two = Tied(((0, 1), (0, 2), (1, 2, 0)), (((1,), (0,), (2,)), ((0,), (2,)), ((2,), (1,))))
+        self.assertEqual(gone_pairs(two), ((2, 0), (0, 0), (2, 1), (1, 2)))
 
     def test_groups_of_one_are_strict_orders(self):
         for lists, orders in some_tied(80, 124):

@@ -77,6 +77,12 @@ class Rings(unittest.TestCase):
         two = Market(((0, 1, 2), (1,), (2,)), ((0,), (0, 1), (0, 2)), (1, 2, 1))
         self.assertIsNone(next_room(two, (0, 1, 2), 0))
 
+    def test_a_free_seat_of_its_own_room_does_not_matter(self):
+        market = Market(((0, 1), (1,)), ((0,), (0, 1)), (2, 1))
+        self.assertEqual(next_room(market, (0, 1), 0), 1)
+        self.assertEqual(next_asker(market, (0, 1), 0), 1)
+        self.assertEqual(turns(market, (0, 1)), ())
+
     def test_a_free_seat_behind_the_next_room_does_not_matter(self):
         market = Market(((0, 1, 2), (1,)), ((0,), (0, 1), (0,)), (1, 1, 1))
         self.assertEqual(next_room(market, (0, 1), 0), 1)
