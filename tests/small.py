@@ -1,7 +1,7 @@
 """Small markets to try things on, and the document's words said again by trying all matchings."""
 
 import random
-from itertools import permutations, product
+from itertools import combinations, permutations, product
 
 from pairmart.markets import Market
 
@@ -141,3 +141,19 @@ def tied_blocks(lists, orders, match, even=True):
             if mine < len(orders[room]) and (mine < theirs or (even and mine == theirs)):
                 found.append((asker, room))
     return found
+
+
+def some_rows(chance, many, wide, most):
+    """So many rows of so many numbers from nought to most."""
+    return tuple(tuple(chance.randint(0, most) for _ in range(wide)) for _ in range(many))
+
+
+def all_pairs(many, wide):
+    """All ways in which so many rows have each a column below wide or None, no column twice."""
+    return [pairs for pairs in product((None, *range(wide)), repeat=many)
+            if len(set(pairs) - {None}) == len([one for one in pairs if one is not None])]
+
+
+def all_lots(many):
+    """All lots of ones below so many, the bare one too."""
+    return [lot for length in range(many + 1) for lot in combinations(range(many), length)]

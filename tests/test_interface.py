@@ -5,10 +5,15 @@ import unittest
 from pathlib import Path
 
 from pairmart.asks import Asking
+from pairmart.blossoms import Forest, Friends
+from pairmart.covers import Links
+from pairmart.eatings import Meal, Part
 from pairmart.markets import Market
+from pairmart.mates import Table
 from pairmart.ties import Strong, Tied
 from pairmart.turns import Turn
 from pairmart.wishes import Wish
+from pairmart.worths import Search
 
 PACKAGE = Path(__file__).resolve().parent.parent / "pairmart"
 
@@ -44,6 +49,39 @@ DEFS = {
         waste(market, match); envy(market, match); more_seats(market, room, many)""",
     "ties": """
         some_weak(tied, draw); strongest(tied); gone_pairs(tied); check_none(tied, room)""",
+    "circles": """
+        check_lists(lists); circle_from(points, start); rounds(lists); exchanged_by(rings, many); trade(lists);
+        gains(lists, got, lot); all_ways(things); is_firm(lists, got); power_of_two(many); paper(lists);
+        check_paper(lists, got, rings); improved(lists, got); in_turn(lists, order); turn_for(lists, got)""",
+    "covers": """
+        move_along(owner, came, other, start); count_pairs(pairs); check_pairs(links, pairs, cover);
+        check_short(links, lot); all_paired(links)""",
+    "worths": """
+        check_worths(rows); best_pairs(rows); worth_of(rows, pairs); greatest(rows);
+        check_worth(rows, pairs, gains, prices); without_row(rows, row); without_column(rows, column);
+        adds(rows, row); column_adds(rows, column)""",
+    "prices": """
+        wanted_at(worths, prices); may_have(worths, prices); are_content(rows, prices, pairs);
+        can_be_content(rows, prices); least_prices(rows); over_wanted(rows, prices); things_of(links, lot);
+        rise(rows, most=500); lower_of(one, other); higher_of(one, other); gain_by(rows, row, told);
+        check_least(rows, prices, pairs)""",
+    "blossoms": """
+        pair_up(near); most_pairs(friends); pairs_without(friends, gone); hard_lot(friends); parts(near);
+        odd_parts(friends, gone); check_mates(friends, mates, lot); with_papers(friends)""",
+    "mates": """
+        search(lists); pair_off(lists); steps_of(lists); blocking(lists, mates); are_mates(lists, mates);
+        is_settled(lists, mates); check_steps(lists, steps); check_ask(table, step); check_ring(table, ring)""",
+    "eatings": """
+        shared(one, other); shares(lists, many); times(lists, many); sums_down(order, row); as_much(order, one, other);
+        wanted_more(lists, rows); is_tight(lists, rows); whole_of(rows, thing)""",
+    "draws": """
+        check_square(rows); parted(rows); added(lots, many); drawn(lots, number); to_square(rows, things);
+        given_by(pairs, many, things); common(one, other)""",
+    "goods": """
+        check_rows(rows); worth(row, things); envies(rows, lots, one, other); is_calm(rows, lots);
+        but_one(rows, lots); enviers(rows, lots); ring_of(backs); passed(lots, ring); share(rows);
+        in_rounds(rows, order); all_given(rows, lots); least_worth(rows, lots); put_on(sums, place, much);
+        fair_part(rows, one)""",
 }
 
 CLASSES = {
@@ -74,6 +112,25 @@ CLASSES = {
     ("ties", "Strong"): """
         __init__(self, tied); drop(self, asker, room); holds(self, asker); ask(self, asker); go_on(self);
         still_asking(self); match(self)""",
+    ("covers", "Links"): """
+        __init__(self, rows, many); most_pairs(self); lengthen(self, owner, start); reached(self, pairs);
+        cover(self); short_lot(self)""",
+    ("worths", "Search"): """
+        __init__(self, rows); put_in(self, row); look(self, here, column, used, best, came);
+        shift(self, row, used, best, step)""",
+    ("blossoms", "Friends"): """
+        __init__(self, many, links); without(self, gone)""",
+    ("blossoms", "Forest"): """
+        __init__(self, near, mates); begin(self, start); up(self, one); meet(self, one, other);
+        mark(self, one, base, child, blossom); draw_in(self, one, other); search(self, start); turn_over(self, end)""",
+    ("mates", "Table"): """
+        __init__(self, lists); drop(self, one, other); cut_behind(self, one, other); ask_round(self); ring(self);
+        turn(self, ring); is_even(self); is_bare(self, had)""",
+    ("eatings", "Part"): """
+        __init__(self, top, low); plus(self, other); minus(self, other); over(self, number); below(self, other);
+        shown(self)""",
+    ("eatings", "Meal"): """
+        __init__(self, lists, many); bite(self, one); eaters(self); eat(self)""",
 }
 
 
@@ -112,6 +169,13 @@ class Interface(unittest.TestCase):
             (Turn((0, 1), (1, 0)), ("askers", "rooms")),
             (tied, ("lists", "orders", "ranks")),
             (Strong(tied), ("tied", "left", "inside", "asked", "gone")),
+            (Links(((0,),), 1), ("rows", "many")),
+            (Search(((1,),)), ("wide", "many", "costs", "left", "right", "owner")),
+            (Friends(2, ((0, 1),)), ("count", "near")),
+            (Forest({0: ()}, {0: None}), ("near", "mates", "base", "came", "even", "waiting")),
+            (Table(((),)), ("full", "left", "steps")),
+            (Part(1, 2), ("top", "low")),
+            (Meal(((0,),), 1), ("lists", "left", "had", "clock", "steps")),
         ):
             self.assertLessEqual(set(fields), set(vars(made)))
 
