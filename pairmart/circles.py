@@ -162,7 +162,7 @@ def turn_for(lists, got):
         ready = [one for one in waiting if best_left(lists[one], gone) == got[one]]
         if ready == []:
             return None
-        # Whoever may take what it got now may do so later too: nobody else is to have that.
+        # Taking what one is to have never hinders the others: none of them is to have it.
         order.append(ready[0])
         waiting.remove(ready[0])
         gone[got[ready[0]]] = True

@@ -50,7 +50,7 @@ def drawn(lots, number):
     for weight, lot in lots:
         past = past + weight
         if number < past:
-            return lot
+            return tuple(lot)
     raise BadSize("the number is past all lots")
 
 

@@ -37,7 +37,7 @@ class Search:
         column = None
         while here is not None:
             self.look(here, column, used, best, came)
-            column = min([other for other in range(self.wide) if not used[other]], key=lambda other: best[other])
+            column = min([free for free in range(self.wide) if not used[free]], key=lambda other: best[other])
             self.shift(row, used, best, best[column])
             used[column] = True
             here = self.owner[column]

@@ -78,6 +78,7 @@ class Squares(unittest.TestCase):
     def test_drawn(self):
         lots = ((1, (0, 1)), (2, (1, 0)))
         self.assertEqual([drawn(lots, number) for number in range(3)], [(0, 1), (1, 0), (1, 0)])
+        self.assertEqual(drawn([[1, [0, 1]]], 0), (0, 1))
         for number in (3, 4, 99):
             with self.assertRaises(BadSize):
                 drawn(lots, number)
