@@ -114,9 +114,9 @@ class Forest:
 
 def pair_up(near):
     """Return a table of mates, as many pairs as can be among a table of friends."""
-    mates = {one: None for one in near}
+    mates = {}
     for one in near:
-        if mates[one] is None:
+        if one not in mates:
             forest = Forest(near, mates)
             end = forest.search(one)
             if end is not None:
@@ -127,13 +127,12 @@ def pair_up(near):
 def most_pairs(friends):
     """Return each one's mate or None, as many pairs as can be."""
     mates = pair_up(friends.near)
-    return tuple([mates[one] for one in range(friends.count)])
+    return tuple([mates.get(one) for one in range(friends.count)])
 
 
 def pairs_without(friends, gone):
     """Return how many pairs there can be when some are gone."""
-    mates = pair_up(friends.without(gone))
-    return len([one for one, mate in mates.items() if mate is not None]) // 2
+    return len(pair_up(friends.without(gone))) // 2
 
 
 def hard_lot(friends):
@@ -141,8 +140,8 @@ def hard_lot(friends):
     mates = pair_up(friends.near)
     # Those to whom even ways lead from one who stays alone may stay alone in its place.
     single = {}
-    for one, mate in mates.items():
-        if mate is None:
+    for one in friends.near:
+        if one not in mates:
             forest = Forest(friends.near, mates)
             forest.search(one)
             single.update(forest.even)

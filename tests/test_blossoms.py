@@ -126,8 +126,14 @@ class MostPairs(unittest.TestCase):
     def test_pair_up(self):
         self.assertEqual(pair_up({0: (1,), 1: (0,)}), {0: 1, 1: 0})
         self.assertEqual(pair_up({}), {})
-        mates = pair_up({7: (9,), 8: (), 9: (7,)})
-        self.assertEqual([mates.get(one) for one in (7, 8, 9)], [9, None, 7])
+        # Who has no mate doesn't stand in the table.
+        self.assertEqual(pair_up({7: (9,), 8: (), 9: (7,)}), {7: 9, 9: 7})
+        self.assertEqual(pair_up({0: (), 1: ()}), {})
+        for many, links in some_friends(60, 255):
+            friends = Friends(many, links)
+            mates = pair_up(friends.near)
+            self.assertEqual({mate: one for one, mate in mates.items()}, mates)
+            self.assertEqual(tuple([mates.get(one) for one in range(many)]), most_pairs(friends))
 
     def test_pairs_without(self):
         path = Friends(4, ((0, 1), (1, 2), (2, 3)))
