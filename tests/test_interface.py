@@ -8,8 +8,12 @@ from pairmart.asks import Asking
 from pairmart.blossoms import Forest, Friends
 from pairmart.covers import Links
 from pairmart.eatings import Meal, Part
+from pairmart.flows import Pipes, Wants
+from pairmart.kept import Keeper, KeptMarket
+from pairmart.liked import Votes
 from pairmart.markets import Market
 from pairmart.mates import Table
+from pairmart.terms import Deals
 from pairmart.ties import Strong, Tied
 from pairmart.turns import Turn
 from pairmart.wishes import Wish
@@ -82,6 +86,16 @@ DEFS = {
         but_one(rows, lots); enviers(rows, lots); ring_of(backs); passed(lots, ring); share(rows);
         in_rounds(rows, order); all_given(rows, lots); least_worth(rows, lots); put_on(sums, place, much);
         fair_part(rows, one)""",
+    "flows": """
+        laid(wants, least); pairs_of(wants, pipes); most(wants); most_cut(wants); cut_worth(wants, cut);
+        with_least(wants); short_cut(wants); keeps(wants, pairs); check_cut(wants, cut)""",
+    "kept": """
+        is_steady(keeper, ones, kinds, gone); kept_taken(keeper, match_inside, kinds)""",
+    "terms": """
+        plain_deals(market); as_match(deals, taken)""",
+    "liked": """
+        most_liked(lists, many); raised(votes, given); vote(lists, one, other); is_giving(lists, given);
+        by_choices(lists, many, given); check_lot(lists, many, lot)""",
 }
 
 CLASSES = {
@@ -131,6 +145,22 @@ CLASSES = {
         shown(self)""",
     ("eatings", "Meal"): """
         __init__(self, lists, many); bite(self, one); eaters(self); eat(self)""",
+    ("flows", "Pipes"): """
+        __init__(self, many); lay(self, one, other, room); more_room(self, one, other); ways_from(self, one);
+        way(self, start, end); send(self, start, end); reached(self, start)""",
+    ("flows", "Wants"): """
+        __init__(self, lists, asker_bounds, room_bounds); linked(self, askers, rooms)""",
+    ("kept", "Keeper"): """
+        __init__(self, order, seats, keeps); choose(self, ones, kinds); refuses(self, ones, kinds)""",
+    ("kept", "KeptMarket"): """
+        __init__(self, lists, kinds, keepers); taken(self, match, room); ask_all(self); blocks(self, match);
+        is_stable(self, match)""",
+    ("terms", "Deals"): """
+        __init__(self, contracts, lists, orders, seats); check(self, wish, place, who); choose(self, room, ones);
+        offers(self); kept_by(self, made); free_asker(self, made, next_ones); of_asker(self, taken, asker);
+        blocks(self, taken); is_stable(self, taken)""",
+    ("liked", "Votes"): """
+        __init__(self, lists, many); first(self, asker); second(self, asker); choices(self)""",
 }
 
 
@@ -176,6 +206,12 @@ class Interface(unittest.TestCase):
             (Table(((),)), ("full", "left", "steps")),
             (Part(1, 2), ("top", "low")),
             (Meal(((0,),), 1), ("lists", "left", "had", "clock", "steps")),
+            (Pipes(2), ("places", "room", "going")),
+            (Wants(((0,),), ((0, 1),), ((0, 1),)), ("lists", "askers", "rooms")),
+            (Keeper((0,), 1, ()), ("listed", "seats", "keeps")),
+            (KeptMarket(((0,),), ("a",), (Keeper((0,), 1, ()),)), ("lists", "listedes", "kinds", "keepers")),
+            (Deals(((0, 0, 0),), ((0,),), ((0,),), (1,)), ("contracts", "lists", "orders", "seats")),
+            (Votes(((0,),), 1), ("lists", "things", "firsts")),
         ):
             self.assertLessEqual(set(fields), set(vars(made)))
 
