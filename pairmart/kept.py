@@ -58,7 +58,8 @@ class KeptMarket:
                 held[asker] = self.lists[asker][places[asker]]
                 places[asker] += 1
             for room, keeper in enumerate(self.keepers):
-                for asker in keeper.refuses(self.taken(held, room), self.kinds):
+                refused = keeper.refuses(self.taken(held, room), self.kinds)
+                for asker in refused:
                     held[asker] = None
             asking = self.who_asks(held, places)
         return tuple(held)
