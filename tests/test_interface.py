@@ -6,13 +6,16 @@ from pathlib import Path
 
 from pairmart.asks import Asking
 from pairmart.blossoms import Forest, Friends
+from pairmart.books import Book, Deed
 from pairmart.covers import Links
+from pairmart.days import Fair
 from pairmart.eatings import Meal, Part
 from pairmart.flows import Pipes, Wants
 from pairmart.kept import Keeper, KeptMarket
 from pairmart.liked import Votes
 from pairmart.markets import Market
 from pairmart.mates import Table
+from pairmart.sessions import Session
 from pairmart.terms import Deals
 from pairmart.ties import Strong, Tied
 from pairmart.turns import Turn
@@ -96,6 +99,29 @@ DEFS = {
     "liked": """
         most_liked(lists, many); raised(votes, given); vote(lists, one, other); is_giving(lists, given);
         by_choices(lists, many, given); check_lot(lists, many, lot)""",
+    "profiles": """
+        profile(lists, given); weights(count, base, up); by_weights(lists, many, weight); most_firsts(lists, many);
+        fewest_lasts(lists, many); least_sum(lists, many); reversed_profile(lists, given); sum_of_places(lists, given);
+        how_many(given)""",
+    "days": "check_words(words)",
+    "texts": """
+        is_word(word); is_count(word); words_of(line); all_words(words); read_row(fair, line); read(text); told(fair);
+        told_match(fair); read_groups(text); told_groups(groups)""",
+    "books": """
+        figure_of(text); read_deed(line); row_deed(line, number); deeds_of(text); done_again(text); stages(text);
+        undone(book, many)""",
+    "sessions": """
+        told_change(change); rows_of(text); all_said(lines); is_fault(error); faults(answers); refuse(word)""",
+}
+
+VALUES = {
+    "turns": {"MOST": 500},
+    "eatings": {"NONE": (0, 1)},
+    "texts": {
+        "SMALL": "abcdefghijklmnopqrstuvwxyz", "INNER": "abcdefghijklmnopqrstuvwxyz0123456789_",
+        "FIGURES": "0123456789", "MOST_FIGURES": 6,
+    },
+    "books": {"BASE": 9973, "WIDE": 2000003},
 }
 
 CLASSES = {
@@ -161,6 +187,19 @@ CLASSES = {
         blocks(self, taken); is_stable(self, taken)""",
     ("liked", "Votes"): """
         __init__(self, lists, many); first(self, asker); second(self, asker); choices(self)""",
+    ("days", "Fair"): """
+        __init__(self); likes(self, asker, room); those_in(self, room); match(self); ask(self, asker); who_waits(self);
+        go_on(self); part_of(self, askers, rooms); ask_anew(self, askers); told(self, before);
+        come(self, asker, rooms); leave(self, asker); wish(self, asker, rooms); open_room(self, room, askers, count);
+        set_room(self, room, askers, count); shut_room(self, room); change_room(self, room, askers, count);
+        names(self); as_market(self); by_numbers(self); shown(self)""",
+    ("books", "Deed"): """
+        __init__(self, kind, who, words=(), count=None); line(self); shown(self); do(self, fair)""",
+    ("books", "Book"): """
+        __init__(self); do(self, line)""",
+    ("sessions", "Session"): """
+        __init__(self, book=None); say(self, line); do(self, line); number(self, words, word); paper(self);
+        why(self, asker, room); lie(self, asker)""",
 }
 
 
@@ -212,8 +251,19 @@ class Interface(unittest.TestCase):
             (KeptMarket(((0,),), ("a",), (Keeper((0,), 1, ()),)), ("lists", "listedes", "kinds", "keepers")),
             (Deals(((0, 0, 0),), ((0,),), ((0,),), (1,)), ("contracts", "lists", "orders", "seats")),
             (Votes(((0,),), 1), ("lists", "things", "firsts")),
+            (Fair(), ("lists", "orders", "seats", "held", "next", "asks")),
+            (Deed("leave", "ann"), ("kind", "who", "words", "count")),
+            (Book(), ("fair", "text", "many")),
+            (Session(), ("book",)),
         ):
             self.assertLessEqual(set(fields), set(vars(made)))
+
+    def test_values_stand_in_their_files(self):
+        for name, values in VALUES.items():
+            found = {node.targets[0].id: ast.literal_eval(node.value) for node in self.trees[name].body
+                     if isinstance(node, ast.Assign)}
+            for word, value in values.items():
+                self.assertEqual(found[word], value, word)
 
 
 if __name__ == "__main__":

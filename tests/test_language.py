@@ -14,8 +14,8 @@ BUILTINS = set("""
 """.split())
 
 METHODS = set("""
-    append clear copy count endswith extend find get index insert items join keys pop remove replace reverse
-    setdefault split startswith strip update values
+    append clear copy count endswith extend find get index insert items join keys partition pop remove replace reverse
+    rpartition setdefault split startswith strip update values
 """.split())
 
 BARRED = set("""
@@ -27,7 +27,7 @@ LIBRARY = {"math": {"gcd"}}
 
 STATEMENTS = (
     ast.Assign, ast.AugAssign, ast.If, ast.While, ast.For, ast.Return, ast.Break, ast.Continue, ast.Pass, ast.Raise,
-    ast.Assert, ast.Expr, ast.FunctionDef,
+    ast.Assert, ast.Delete, ast.Expr, ast.FunctionDef, ast.Try,
 )
 
 
@@ -70,6 +70,8 @@ class Language(unittest.TestCase):
             self.assertEqual((package, node.level), ("pairmart", 0), path)
             bound = {one.name for one in self.trees[PACKAGE / f"{stem}.py"].body
                      if isinstance(one, (ast.FunctionDef, ast.ClassDef))}
+            bound |= {target.id for one in self.trees[PACKAGE / f"{stem}.py"].body if isinstance(one, ast.Assign)
+                      for target in one.targets}
             for name in node.names:
                 self.assertIn(name.name, bound, path)
                 self.assertIsNone(name.asname, path)
@@ -89,8 +91,38 @@ class Language(unittest.TestCase):
             self.assertEqual(node.decorator_list, [], path)
             for row in node.body:
                 self.assertIsInstance(row, STATEMENTS, (path, row.lineno))
-        for path, node in self.nodes(ast.Global, ast.Try, ast.With, ast.Lambda, ast.Set, ast.AnnAssign, ast.Div):
+        for path, node in self.nodes(ast.Global, ast.With, ast.Lambda, ast.Set, ast.AnnAssign, ast.Div):
             self.assertIsInstance(node, ast.Lambda, path)
+
+    def test_own_errors_alone_are_caught_and_raised(self):
+        errors = {node.name for node in self.trees[PACKAGE / "errors.py"].body if isinstance(node, ast.ClassDef)}
+        for path, node in self.nodes(ast.Try):
+            self.assertEqual(node.finalbody, [], (path, node.lineno))
+        for path, node in self.nodes(ast.ExceptHandler):
+            self.assertIsNotNone(node.type, (path, node.lineno))
+            caught = node.type.elts if isinstance(node.type, ast.Tuple) else [node.type]
+            self.assertLessEqual({one.id for one in caught}, errors, (path, node.lineno))
+        for path, node in self.nodes(ast.Raise):
+            self.assertIsInstance(node.exc, ast.Call, (path, node.lineno))
+            self.assertIn(node.exc.func.id, errors, (path, node.lineno))
+
+    def test_module_level_holds_plain_values_and_is_not_changed(self):
+        for path, tree in self.trees.items():
+            for node in tree.body:
+                if isinstance(node, ast.Assign):
+                    self.assertTrue(all(isinstance(one, (ast.Constant, ast.Tuple, ast.Load))
+                                        for one in ast.walk(node.value)), (path, node.lineno))
+                else:
+                    self.assertIsInstance(node, (ast.Expr, ast.ImportFrom, ast.FunctionDef, ast.ClassDef), path)
+
+    def test_strings(self):
+        for path, node in self.nodes(ast.Constant):
+            if isinstance(node.value, str):
+                self.assertFalse(node.value.endswith(("._", ".__")) or chr(37) in node.value, (path, node.lineno))
+        for path, node in self.nodes(ast.FormattedValue):
+            inner = [one for one in ast.walk(node.value) if isinstance(one, (ast.Constant, ast.JoinedStr))]
+            self.assertEqual([one for one in inner if not isinstance(getattr(one, "value", ""), int)], [],
+                             (path, node.lineno))
 
     def test_builtins_and_methods(self):
         for path, node in self.nodes(ast.Name):
