@@ -60,6 +60,15 @@ class Deeds(unittest.TestCase):
         self.assertEqual(fair.leave("ann"), (("ann", "red", None),))
         self.assertEqual((fair.match(), fair.who_waits()), ((), []))
 
+    def test_nothing_is_kept_of_who_is_gone(self):
+        fair = small_fair()
+        for asker in ("bob", "ann", "cat"):
+            fair.leave(asker)
+        fair.shut_room("red")
+        fair.shut_room("blue")
+        asked = fair.asks
+        self.assertEqual(state(fair), {**state(Fair()), "asks": asked})
+
     def test_wish(self):
         fair = small_fair()
         self.assertEqual(fair.wish("bob", ["blue", "red"]), (("ann", "blue", "red"), ("bob", "red", "blue")))

@@ -113,6 +113,15 @@ class PipesOfPlaces(unittest.TestCase):
         self.assertEqual(pipes.send(0, 2), 2)
         self.assertEqual((pipes.more_room(0, 1), pipes.more_room(1, 0)), (0, 5))
 
+    def test_what_goes_one_way_is_taken_back_and_the_rest_goes_the_other_way(self):
+        pipes = Pipes(2)
+        pipes.lay(0, 1, 2)
+        pipes.lay(1, 0, 3)
+        self.assertEqual(pipes.send(1, 0), 3)
+        self.assertEqual(pipes.send(0, 1), 5)
+        self.assertEqual((pipes.going[(0, 1)], pipes.going[(1, 0)]), (2, 0))
+        self.assertEqual((pipes.more_room(0, 1), pipes.more_room(1, 0)), (0, 5))
+
     def test_two_pipes_between_the_same_places_let_both_through(self):
         pipes = Pipes(2)
         pipes.lay(0, 1, 2)
@@ -279,6 +288,31 @@ class Least(unittest.TestCase):
         wants = Wants(((),), ((0, 1),), ((1, 1),))
         self.assertIsNone(with_least(wants))
         self.assertTrue(check_cut(wants, short_cut(wants)))
+
+    def test_most_counts_are_kept_where_least_counts_ask_for_more(self):
+        # Both rooms must have somebody, and the one asker may have but one; then the other way round.
+        for wants in (Wants(((0, 1),), ((1, 1),), ((1, 1), (1, 1))), Wants(((0,), (0,)), ((1, 1), (1, 1)), ((1, 1),))):
+            self.assertIsNone(with_least(wants))
+            self.assertTrue(check_cut(wants, short_cut(wants)))
+
+    def test_counts_that_are_told_to_the_last_one(self):
+        chance = random.Random(2008)
+        ones = [0, 0]
+        for lists, _, _ in some_wants(300, 2009):
+            askers = tuple((most_of - chance.choice((0, 0, min(1, most_of))), most_of)
+                           for most_of in [chance.randint(0, 2) for _ in lists])
+            many = max([room + 1 for row in lists for room in row], default=0)
+            rooms = tuple((most_of, most_of) for most_of in [chance.randint(0, 2) for _ in range(many)])
+            wants = Wants(lists, askers, rooms)
+            can = [tuple(sorted(pairs)) for pairs in all_sets(lists) if within(pairs, askers, rooms, True)]
+            ones[len(can) > 0] += 1
+            if can:
+                self.assertIn(with_least(wants), can)
+                self.assertIsNone(short_cut(wants))
+            else:
+                self.assertIsNone(with_least(wants))
+                self.assertTrue(shows(lists, askers, rooms, *short_cut(wants)))
+        self.assertGreater(min(ones), 40)
 
     def test_least_counts_are_kept_though_fewer_go_by(self):
         # 0 must have both rooms, so that 1 has none.

@@ -152,6 +152,17 @@ class Steadiness(unittest.TestCase):
         self.assertFalse(is_steady(Fickle((0, 1, 2), 3, ()), (0, 1, 2), KINDS, (2,)))
         self.assertTrue(is_steady(Fickle((0, 1, 2), 3, ()), (0, 1, 2), KINDS, ()))
 
+    def test_fewer_are_those_who_are_not_gone(self):
+
+        class Shy(Keeper):
+            """It takes nobody where just 2 asks."""
+
+            def choose(self, ones, kinds):
+                return () if tuple(ones) == (2,) else Keeper.choose(self, ones, kinds)
+
+        self.assertTrue(is_steady(Shy((0, 1, 2), 3, ()), (0, 1, 2), KINDS, (2,)))
+        self.assertFalse(is_steady(Shy((0, 1, 2), 3, ()), (0, 1, 2), KINDS, (0, 1)))
+
     def test_a_room_that_looks_at_the_refused_is_not(self):
 
         class Proud(Keeper):

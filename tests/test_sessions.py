@@ -2,6 +2,7 @@
 
 import random
 import unittest
+from unittest import mock
 
 from fairs import ASKERS, ROOMS, line_of, market_of, some_deed, some_deeds, state
 from pairmart.books import Book, done_again
@@ -71,16 +72,15 @@ class Saying(unittest.TestCase):
             self.assertEqual(session.lie(asker), ("none helps",))
 
     def test_a_lie_that_helps_is_told(self):
-        # It can't help where the best matching stands, so asking is made to go wrong.
-        import pairmart.sessions
-        kept = pairmart.sessions.best_lie
-        pairmart.sessions.best_lie = lambda market, asker: ((0,), 0) if asker == 1 else None
-        try:
+        # It can't help where the best matching stands, so another answer is put in.
+        with mock.patch("pairmart.sessions.best_lie", lambda market, asker: ((0,), 0) if asker == 1 else None):
             session = session_of(LINES)
             self.assertEqual([session.say(f"lie {asker}") for asker in ("ann", "bob", "cat")],
                              [("none helps",), ("one helps",), ("none helps",)])
-        finally:
-            pairmart.sessions.best_lie = kept
+
+    def test_papers_are_looked_through(self):
+        with mock.patch("pairmart.sessions.check_both", side_effect=BadPaper("it is wrong")):
+            self.assertEqual(session_of(LINES).say("paper"), ("error: paper",))
 
     def test_why(self):
         session = session_of(TWO + ("open oak 1 bob", "come cat red oak blue", "wish bob blue oak red",

@@ -155,7 +155,7 @@ class Groups(unittest.TestCase):
 
     def test_brackets_that_can_not_be(self):
         for text in ("(ann", "ann (bob", "(", "ann)", ")", "()", "(  )", "ann () bob", "((ann bob))", "(ann (bob cat))",
-                     "(ann bob) cat)", ")(", "(ann bob))", "((", "(ann bob) ("):
+                     "(ann bob) cat)", ")(", "(ann bob))", "((", "(ann bob) (", "(ann (bob cat)", "((ann bob)"):
             with self.assertRaises(BadText, msg=text):
                 read_groups(text)
 
